@@ -1,0 +1,1 @@
+"""Lendyard: things lent so that all workers can finish."""
