@@ -1,6 +1,10 @@
 """Amounts: lists of whole numbers, one for each kind."""
 
 
+def more(amounts, other):
+    return [number + added for number, added in zip(amounts, other)]
+
+
 def less(amounts, other):
     return [number - taken for number, taken in zip(amounts, other)]
 
@@ -18,3 +22,7 @@ def fits(amounts, other):
         if number > bound:
             return False
     return True
+
+
+def copies(loans):
+    return [list(loan) for loan in loans]

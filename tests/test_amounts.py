@@ -2,7 +2,7 @@ import copy
 import itertools
 import unittest
 
-from lendyard.amounts import fits, free_of, less
+from lendyard.amounts import copies, fits, free_of, less, more
 
 HUGE = 10 ** 60
 
@@ -178,6 +178,22 @@ class RestTest(unittest.TestCase):
 
     def test_with_the_whole_claim_lent_nothing_more_is_wanted(self):
         self.assertIs(self.can_finish([3, 2], [3, 2], [0, 0]), True)
+
+
+class HelpersTest(unittest.TestCase):
+    def test_more_is_kind_by_kind(self):
+        amounts = [1, 0, HUGE]
+        other = [2, 3, HUGE]
+        self.assertEqual(more(amounts, other), [3, 3, 2 * HUGE])
+        self.assertEqual((amounts, other), ([1, 0, HUGE], [2, 3, HUGE]))
+
+    def test_copies_share_no_list(self):
+        loans = [[1, 2], [3, 4]]
+        answer = copies(loans)
+        self.assertEqual(answer, loans)
+        answer[0][0] = 9
+        answer.append([])
+        self.assertEqual(loans, [[1, 2], [3, 4]])
 
 
 if __name__ == "__main__":

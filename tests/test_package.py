@@ -34,9 +34,8 @@ def foreign_names(tree):
 class PackageTest(unittest.TestCase):
     def files(self):
         found = sorted(PACKAGE.rglob("*.py"))
-        self.assertIn(PACKAGE / "__init__.py", found)
-        self.assertIn(PACKAGE / "amounts.py", found)
-        self.assertIn(PACKAGE / "errors.py", found)
+        for name in ("__init__", "amounts", "day", "errors", "lending", "ways"):
+            self.assertIn(PACKAGE / f"{name}.py", found)
         return found
 
     def trees(self):
@@ -59,6 +58,13 @@ class PackageTest(unittest.TestCase):
                     self.assertNotIsInstance(node, ast.Div)
                     if isinstance(node, ast.Constant):
                         self.assertNotIsInstance(node.value, (float, complex, bytes))
+
+    def test_short_functions(self):
+        for name, tree in self.trees():
+            for node in ast.walk(tree):
+                if isinstance(node, ast.FunctionDef):
+                    with self.subTest(file=name, function=node.name):
+                        self.assertLessEqual(node.end_lineno - node.lineno + 1, 40)
 
     def test_plain_signs_and_short_rows(self):
         for path in self.files():
